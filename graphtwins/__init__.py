@@ -1,0 +1,1 @@
+"""graphtwins: graphs of objects, held alike by several peers."""
