@@ -1,0 +1,83 @@
+"""The interface: names and arguments as they are written, and where they are defined."""
+
+import importlib
+import inspect
+import unittest
+
+FUNCTIONS = {
+    "graphtwins.values": {
+        "is_name": ["name"], "is_field": ["text"], "is_value": ["value"],
+        "reference": ["name"], "is_reference": ["value"], "target_of": ["value"],
+    },
+    "graphtwins.changes": {
+        "is_stamp": ["stamp"], "is_change": ["change"], "is_later": ["stamp", "other"],
+        "greatest_stamp": ["changes"], "sorted_changes": ["changes"],
+    },
+    "graphtwins.states": {
+        "joined": ["one", "other"], "is_equal": ["one", "other"], "is_below": ["one", "other"],
+    },
+    "graphtwins.graphs": {
+        "reachable": ["state", "roots"], "numbered": ["state", "roots"],
+        "are_alike": ["state", "roots", "other", "other_roots"],
+    },
+    "graphtwins.octets": {
+        "number_octets": ["number", "many"], "word_octets": ["word"],
+        "graph_octets": ["graph"], "read_graph": ["octets"],
+    },
+    "graphtwins.wire": {
+        "check_of": ["octets"], "message_octets": ["sender", "number", "changes"], "read_message": ["octets"],
+    },
+}
+
+CLASSES = {
+    "graphtwins.errors": {
+        "GraphtwinsError": {},
+        "CodeError": {"__init__": ["place"]},
+        "NothingThere": {"__init__": ["place"]},
+        "LineError": {"__init__": ["line"]},
+        "NoSuchObject": {"__init__": ["name"]},
+        "NotHere": {"__init__": ["name"]},
+        "BadPeer": {"__init__": ["peer"]},
+        "NoSuchMessage": {"__init__": ["sender", "number"]},
+        "PowerCut": {"__init__": ["written"]},
+        "NotTogether": {},
+        "ShutError": {},
+    },
+    "graphtwins.states": {
+        "State": {
+            "__init__": [], "take": ["change"], "value": ["name", "field"], "stamp": ["name", "field"],
+            "fields": ["name"], "names": [], "changes": [], "copy": [],
+        },
+    },
+}
+
+
+def arguments(function):
+    return list(inspect.signature(function).parameters)
+
+
+class InterfaceCase(unittest.TestCase):
+    def test_functions(self):
+        for module, functions in FUNCTIONS.items():
+            for name, expected in functions.items():
+                function = getattr(importlib.import_module(module), name)
+                self.assertTrue(inspect.isfunction(function), name)
+                self.assertEqual(function.__module__, module, name)
+                self.assertEqual(arguments(function), expected, name)
+
+    def test_classes(self):
+        for module, classes in CLASSES.items():
+            for name, methods in classes.items():
+                kind = getattr(importlib.import_module(module), name)
+                self.assertTrue(inspect.isclass(kind), name)
+                self.assertEqual(kind.__module__, module, name)
+                for method, expected in methods.items():
+                    self.assertIn(method, vars(kind), name)
+                    self.assertEqual(arguments(vars(kind)[method])[1:], expected, (name, method))
+
+    def test_root(self):
+        self.assertEqual(importlib.import_module("graphtwins.values").ROOT, (0, 0))
+
+
+if __name__ == "__main__":
+    unittest.main()
