@@ -27,6 +27,20 @@ FUNCTIONS = {
     "graphtwins.wire": {
         "check_of": ["octets"], "message_octets": ["sender", "number", "changes"], "read_message": ["octets"],
     },
+    "graphtwins.texts": {
+        "format_value": ["value"], "format_graph": ["graph"], "parse_graph": ["text"],
+    },
+    "graphtwins.queries": {
+        "follow": ["graph", "numbers", "steps"], "closure": ["graph", "numbers"],
+        "values_at": ["graph", "numbers", "steps", "field"], "path_to": ["graph", "start", "goal"],
+    },
+    "graphtwins.classes": {
+        "classes": ["graph"], "smaller": ["graph"], "telling_path": ["graph", "one", "other"],
+    },
+    "graphtwins.schemas": {
+        "fits": ["rule", "value"], "fault_of": ["rules", "fields"], "first_fault": ["schema", "graph", "kinds"],
+        "is_within": ["schema", "kind", "other"], "telling_graph": ["schema", "kind", "other"],
+    },
 }
 
 CLASSES = {
