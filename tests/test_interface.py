@@ -41,6 +41,10 @@ FUNCTIONS = {
         "fits": ["rule", "value"], "fault_of": ["rules", "fields"], "first_fault": ["schema", "graph", "kinds"],
         "is_within": ["schema", "kind", "other"], "telling_graph": ["schema", "kind", "other"],
     },
+    "graphtwins.ranges": {
+        "ranges_of": ["numbers"], "numbers_of": ["ranges"], "told": ["replica"], "lacking": ["mine", "theirs"],
+        "answer": ["replica", "theirs"], "bring": ["replica", "other"],
+    },
 }
 
 CLASSES = {
@@ -61,6 +65,19 @@ CLASSES = {
         "State": {
             "__init__": [], "take": ["change"], "value": ["name", "field"], "stamp": ["name", "field"],
             "fields": ["name"], "names": [], "changes": [], "copy": [],
+        },
+    },
+    "graphtwins.replicas": {
+        "Replica": {
+            "__init__": ["peer"], "knows": ["name"], "begin": [], "put": ["name", "field", "value"], "hold": ["name"],
+            "drop": ["name"], "count": ["sender"], "version": [], "missing": ["sender", "number"], "send": [],
+            "copy_of": ["sender", "number"], "accept": ["sender", "number", "changes"], "receive": ["octets"], "graph": [],
+        },
+    },
+    "graphtwins.channels": {
+        "Channel": {
+            "__init__": [], "put": ["octets"], "lose": ["place"], "double": ["place"], "exchange": ["place", "other"],
+            "damage": ["place", "spot", "octet"], "cut": ["place", "length"], "take": ["place"],
         },
     },
 }
