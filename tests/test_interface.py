@@ -45,6 +45,22 @@ FUNCTIONS = {
         "ranges_of": ["numbers"], "numbers_of": ["ranges"], "told": ["replica"], "lacking": ["mine", "theirs"],
         "answer": ["replica", "theirs"], "bring": ["replica", "other"],
     },
+    "graphtwins.lazy": {
+        "part_of": ["state", "names"], "fetch_all": ["lazy", "state", "roots", "most"],
+        "is_whole": ["lazy", "roots"], "merged": ["lazy", "other"],
+    },
+    "graphtwins.snapshots": {
+        "state_of_cut": ["replica", "version"], "snapshot": ["replica", "version", "roots"],
+        "common_version": ["replicas"], "known_version": ["replicas"], "exchange_all": ["replicas"],
+        "are_together": ["replicas"],
+    },
+    "graphtwins.collection": {
+        "marks": ["replica"], "let_go": ["replica", "names"], "garbage": ["replicas"], "collect": ["replicas"],
+    },
+    "graphtwins.patches": {
+        "patch": ["one", "other"], "applied": ["state", "changes"], "differences": ["one", "other"],
+        "needed": ["changes"], "between": ["one", "other", "clock", "peer"],
+    },
 }
 
 CLASSES = {
@@ -78,6 +94,12 @@ CLASSES = {
         "Channel": {
             "__init__": [], "put": ["octets"], "lose": ["place"], "double": ["place"], "exchange": ["place", "other"],
             "damage": ["place", "spot", "octet"], "cut": ["place", "length"], "take": ["place"],
+        },
+    },
+    "graphtwins.lazy": {
+        "LazyPeer": {
+            "__init__": [], "take_in": ["changes"], "fetch": ["state", "names"], "is_here": ["name"],
+            "value": ["name", "field"], "fields": ["name"], "stubs": [], "forget": ["name"],
         },
     },
 }
