@@ -37,6 +37,10 @@ class Replica:
         target = linked_name(value)
         if target is not None:
             self._check_known(target)
+        return self.set_field(name, field, value)
+
+    def set_field(self, name, field, value):
+        """Set a field, whether or not its object and the one referred to are known; return the change."""
         self.clock += 1
         change = ((self.clock, self.peer), name, field, value)
         self.state.take(change)

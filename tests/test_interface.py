@@ -61,6 +61,12 @@ FUNCTIONS = {
         "patch": ["one", "other"], "applied": ["state", "changes"], "differences": ["one", "other"],
         "needed": ["changes"], "between": ["one", "other", "clock", "peer"],
     },
+    "graphtwins.watches": {
+        "follow": ["state", "path"], "value_at": ["state", "path"], "cells_of": ["state", "path"],
+    },
+    "graphtwins.journal": {
+        "record_of": ["message"], "recovered": ["octets"], "opened": ["peer", "octets", "power"],
+    },
 }
 
 CLASSES = {
@@ -102,6 +108,43 @@ CLASSES = {
             "value": ["name", "field"], "fields": ["name"], "stubs": [], "forget": ["name"],
         },
     },
+    "graphtwins.undoing": {
+        "Undoer": {
+            "__init__": ["replica"], "put": ["name", "field", "value"], "holds": ["change"], "undo": [], "redo": [],
+        },
+    },
+    "graphtwins.watches": {
+        "Watcher": {"__init__": ["state"], "watch": ["path"], "news": ["state"], "touched": ["changes"]},
+    },
+    "graphtwins.network": {
+        "Network": {
+            "__init__": ["many"], "say": ["peer"], "hand_on": ["one", "other", "sender", "number"],
+            "deliver": ["one", "other", "place"], "under_way": [], "settle": [],
+        },
+    },
+    "graphtwins.journal": {
+        "Device": {"__init__": ["octets", "power"], "append": ["octet"]},
+        "JournaledReplica": {"__init__": ["replica", "device"], "send": [], "receive": ["message"]},
+    },
+}
+
+# For each class what its objects are made of, and the fields that are set then.
+FIELDS = {
+    ("graphtwins.errors", "CodeError"): ([3], ["place"]),
+    ("graphtwins.errors", "NothingThere"): ([3], ["place"]),
+    ("graphtwins.errors", "LineError"): ([3], ["line"]),
+    ("graphtwins.errors", "NoSuchObject"): ([(1, 2)], ["name"]),
+    ("graphtwins.errors", "NotHere"): ([(1, 2)], ["name"]),
+    ("graphtwins.errors", "BadPeer"): ([9], ["peer"]),
+    ("graphtwins.errors", "NoSuchMessage"): ([1, 2], ["sender", "number"]),
+    ("graphtwins.errors", "PowerCut"): ([3], ["written"]),
+    ("graphtwins.states", "State"): ([], ["cells"]),
+    ("graphtwins.replicas", "Replica"): ([3], ["peer", "clock", "made", "state", "roots", "pending", "messages"]),
+    ("graphtwins.channels", "Channel"): ([], ["under_way"]),
+    ("graphtwins.lazy", "LazyPeer"): ([], ["state", "here"]),
+    ("graphtwins.network", "Network"): ([3], ["replicas", "channels"]),
+    ("graphtwins.journal", "Device"): ([[1, 2], 3], ["octets", "power"]),
+    ("graphtwins.journal", "JournaledReplica"): ([None, None], ["replica", "device", "shut"]),
 }
 
 
@@ -127,6 +170,12 @@ class InterfaceCase(unittest.TestCase):
                 for method, expected in methods.items():
                     self.assertIn(method, vars(kind), name)
                     self.assertEqual(arguments(vars(kind)[method])[1:], expected, (name, method))
+
+    def test_fields(self):
+        for (module, name), (given, fields) in FIELDS.items():
+            thing = getattr(importlib.import_module(module), name)(*given)
+            for field in fields:
+                self.assertIn(field, vars(thing), (name, field))
 
     def test_root(self):
         self.assertEqual(importlib.import_module("graphtwins.values").ROOT, (0, 0))

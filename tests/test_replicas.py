@@ -213,6 +213,14 @@ class PutCase(Case):
         self.assert_unknown(replica, (2, 0), replica.put, (2, 0), "a", ref((2, 0)))
         self.assertIs(replica.knows((2, 0)), False)
 
+    def test_setting_a_field_without_asking_for_known_objects(self):
+        # What undoing and redoing need.
+        replica = Replica(1)
+        changes = [replica.set_field((2, 0), "a", ref((3, 1))), replica.set_field(ROOT, "a", None)]
+        self.assertEqual(changes, [((1, 1), (2, 0), "a", ref((3, 1))), ((2, 1), ROOT, "a", None)])
+        self.assertEqual((replica.clock, replica.pending), (2, changes))
+        self.assertEqual(replica.state.cells, state_of(changes).cells)
+
 
 class RootsCase(Case):
     def test_hold(self):
